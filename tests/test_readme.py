@@ -4,21 +4,23 @@ import re
 import unittest
 from pathlib import Path
 
-from lanemap import walks
-
 README = Path(__file__).resolve().parent.parent / "README.md"
 
 
 class Readme(unittest.TestCase):
     def test_each_answer_shown(self):
-        text = README.read_text(encoding="utf-8")
-        names = dict(vars(walks), lanes=[(0, 1), (1, 2), (0, 2), (2, 3)])
-        self.assertIn(f"lanes = {names['lanes']}", text)
-        shown = re.findall(r"^(\w+\(.*\)) +# (\(.*?\]\)|True|False)", text, re.MULTILINE)
-        self.assertEqual(len(shown), 7)
-        for asked, answer in shown:
+        block = re.search(r"```python\n(.*?)```", README.read_text(encoding="utf-8"), re.DOTALL).group(1)
+        names = {}
+        answers = 0
+        for row in block.splitlines():
+            asked, _, remark = row.partition("#")
+            if not remark:
+                exec(row, names)
+                continue
             with self.subTest(asked=asked):
-                self.assertEqual(eval(asked, dict(names)), eval(answer, {}))
+                self.assertEqual(eval(asked, names), eval(remark.split(": ")[0], {}))
+            answers += 1
+        self.assertEqual(answers, 23)
 
 
 if __name__ == "__main__":
